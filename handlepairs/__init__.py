@@ -1,0 +1,1 @@
+"""Fields of skins paired over their edges, counted by marks."""

@@ -1,0 +1,34 @@
+"""What is asked of values that are handed in, whatever they are."""
+
+from handlepairs.errors import Unfit
+
+
+def is_number(thing):
+    """Whether thing is a number: True and False are none."""
+    return isinstance(thing, int) and not isinstance(thing, bool)
+
+
+def is_below(thing, many):
+    """Whether thing is a number from 0, below many."""
+    return is_number(thing) and 0 <= thing < many
+
+
+def is_tuple_of(thing, many):
+    """Whether thing is a tuple of so many values."""
+    return isinstance(thing, tuple) and len(thing) == many
+
+
+def as_tuples(value, depth):
+    """The value with tuples in the place of its lists, down to this depth.
+
+    A depth is told so that a list that holds itself, which is never fit, comes to an end as well.
+    """
+    if depth == 0 or not isinstance(value, (list, tuple)):
+        return value
+    return tuple([as_tuples(part, depth - 1) for part in value])
+
+
+def check_numbers(*things):
+    """Raises Unfit() unless all things are numbers."""
+    if not all([is_number(thing) for thing in things]):
+        raise Unfit()
