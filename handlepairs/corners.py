@@ -3,9 +3,11 @@
 Below the functions of the interface stand those that take what is already known to be fit.
 """
 
-from handlepairs.errors import NoCorner, Unfit
+from handlepairs.errors import NoCorner, TooMany, Unfit
 from handlepairs.given import check_numbers, is_below
 from handlepairs.skins import SIDES, check_edge, check_field, edge_numbers, fit_skin, lesser_crossings
+
+MOST_HANDLES = 3
 
 
 def corners(skin):
@@ -48,11 +50,9 @@ def edges_round(skin, corner):
     """The tuple of the EDGES over which the RING round the corner goes, pair by pair."""
     told = fit_skin(skin)
     check_numbers(corner)
-    all_rounds = rounds(told)
-    if corner not in range(len(all_rounds)):
-        raise NoCorner(corner)
+    check_corner(told, corner)
     numbers = edge_numbers(told)
-    return tuple([numbers[field][(side - 1) % SIDES] for field, side in all_rounds[corner]])
+    return tuple([numbers[field][side] for field, side in crossings_round(rounds(told)[corner])])
 
 
 def sizes(skin):
@@ -69,6 +69,18 @@ def x_of(skin):
 def handles(skin):
     """How many HANDLES the skin has."""
     return handle_number(fit_skin(skin))
+
+
+def check_corner(skin, corner):
+    """Raises NoCorner(corner) if the skin has no CORNER of this number."""
+    if corner not in range(len(rounds(skin))):
+        raise NoCorner(corner)
+
+
+def check_handles(skin):
+    """Raises TooMany() if the skin has too many HANDLES for all CLASSES to be gone through."""
+    if handle_number(skin) > MOST_HANDLES:
+        raise TooMany()
 
 
 def rounds(skin):
@@ -99,6 +111,11 @@ def next_in_round(skin, pair):
     """The pair behind this one in its ROUND."""
     field, side = pair
     return skin[field][(side - 1) % SIDES]
+
+
+def crossings_round(pairs):
+    """The RING round the CORNER with these pairs."""
+    return tuple([(field, (side - 1) % SIDES) for field, side in pairs])
 
 
 def corner_numbers(skin):

@@ -18,6 +18,13 @@ def is_tuple_of(thing, many):
     return isinstance(thing, tuple) and len(thing) == many
 
 
+def is_set_below(thing, many):
+    """Whether thing is a set of numbers from 0, each below many."""
+    if not isinstance(thing, tuple) or not all([is_below(part, many) for part in thing]):
+        return False
+    return all([one < other for one, other in zip(thing, thing[1:])])
+
+
 def as_tuples(value, depth):
     """The value with tuples in the place of its lists, down to this depth.
 

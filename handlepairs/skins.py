@@ -4,7 +4,7 @@ Below the functions of the interface stand those that take what is already known
 """
 
 from handlepairs.errors import NoEdge, NoField, Unfit
-from handlepairs.given import as_tuples, check_numbers, is_below, is_tuple_of
+from handlepairs.given import as_tuples, check_numbers, is_below, is_set_below, is_tuple_of
 
 SIDES = 4
 
@@ -120,6 +120,14 @@ def fit_turns(skin, turns):
     """The turns as a tuple; Unfit() if they are not a SIDE for each FIELD of the skin."""
     told = as_tuples(turns, 1)
     if not is_tuple_of(told, len(skin)) or not all([is_below(side, SIDES) for side in told]):
+        raise Unfit()
+    return told
+
+
+def fit_fields(skin, fields):
+    """The set of FIELDS as a tuple; Unfit() if it is none of FIELDS of the skin."""
+    told = as_tuples(fields, 1)
+    if not is_set_below(told, len(skin)):
         raise Unfit()
     return told
 

@@ -1,11 +1,15 @@
 """Every example of the document's sections that have landed, with its answer."""
 
+import doctest
+import importlib
 import os
 import unittest
 
-from handlepairs import corners, errors, signs, skins
+from handlepairs import errors
+from tests.test_interface import FUNCTIONS
 
 EXAMPLES = os.path.join(os.path.dirname(__file__), "examples.txt")
+README = os.path.join(os.path.dirname(os.path.dirname(os.path.abspath(__file__))), "README.md")
 
 
 def read_examples():
@@ -22,16 +26,17 @@ def read_examples():
 
 def names_of_package():
     names = {}
-    for module in (signs, skins, corners):
-        names.update({name: value for name, value in vars(module).items() if not name.startswith("_")})
+    for module_name, functions in FUNCTIONS.items():
+        module = importlib.import_module("handlepairs." + module_name)
+        names.update({name: getattr(module, name) for name in functions})
     return names
 
 
 class ExamplesTest(unittest.TestCase):
-    def test_there_are_all_of_sections_3_to_5(self):
+    def test_there_are_all_of_sections_3_to_9(self):
         told = read_examples()
-        self.assertEqual(len(told), 23)
-        self.assertEqual(sum(1 for _, _, answer in told if answer and answer.startswith("raises ")), 8)
+        self.assertEqual(len(told), 69)
+        self.assertEqual(sum(1 for _, _, answer in told if answer and answer.startswith("raises ")), 21)
 
     def test_each_has_its_answer(self):
         names = names_of_package()
@@ -51,6 +56,11 @@ class ExamplesTest(unittest.TestCase):
             eval(source, names)
         self.assertIs(type(caught.exception), type(wanted))
         self.assertEqual(vars(caught.exception), vars(wanted))
+
+    def test_those_of_the_readme(self):
+        failed, tried = doctest.testfile(README, module_relative=False)
+        self.assertEqual(failed, 0)
+        self.assertGreater(tried, 4)
 
 
 if __name__ == "__main__":

@@ -1,126 +1,136 @@
-"""[2]: what holds of every function: lists and tuples, names, nothing changed, new lists, things."""
+"""[2]: what holds of every function: lists and tuples, names, nothing changed, new lists, what is unfit, things."""
 
 import copy
-import importlib
 import inspect
 import random
 import unittest
 
-from handlepairs.errors import Unfit
+from handlepairs.errors import TooMany, Unfit
 from handlepairs.skins import is_crossing, is_skin
-from tests.drawn import PAIR, PILLOW, TWIN, as_lists, drawn_skins, exchanged, nest, odd_things
-from tests.test_interface import FUNCTIONS
-
-PIECES = [("ab", 0), ("-1", 2), ("c", 2)]
-
-GIVEN = {
-    "text": ["ab # c\n-1", "", "a\n\nb"],
-    "pieces": [PIECES, []],
-    "piece": ["-12", "07", ""],
-    "number": [0, -7, 10 ** 11],
-    "crossing": [(0, 1), (0, 0)],
-    "edge": [0, 1],
-    "field": [0],
-    "other": [0],
-    "side": [0, 3],
-    "corner": [0],
-}
-
-
-def calls():
-    """(function, argument names, arguments) of ordinary calls of each function, but for a thing."""
-    skins = [TWIN, PILLOW, PAIR] + list(drawn_skins(31, 1))
-    for module_name, functions in FUNCTIONS.items():
-        module = importlib.import_module("handlepairs." + module_name)
-        for name in functions:
-            function = getattr(module, name)
-            names = list(inspect.signature(function).parameters)
-            if "thing" not in names:
-                for skin in skins if "skin" in names else [None]:
-                    for at in range(3):
-                        yield function, names, [one_given(own, skin, at) for own in names]
-
-
-def one_given(name, skin, at):
-    if name == "skin":
-        return skin
-    if name == "order":
-        return tuple(reversed(range(len(skin))))
-    if name == "turns":
-        return tuple((at + field) % 4 for field in range(len(skin)))
-    choices = GIVEN[name]
-    return choices[at % len(choices)]
+from tests.drawn import PAIR, PILLOW, TWIN, as_lists, exchanged, nest, odd_things, raised
+from tests.given import PIECES, calls, outcome, some_skins, thing_calls, unfit
+from tests.slow import slow_is_ring
 
 
 class EveryFunctionTest(unittest.TestCase):
     def test_lists_and_tuples_give_equal_results(self):
-        rng = random.Random(32)
+        rng = random.Random(34)
         for function, _, given in calls():
-            with self.subTest(function=function.__name__, given=given):
-                wanted = repr(function(*given))
-                self.assertEqual(repr(function(*as_lists(given))), wanted)
-                for _ in range(3):
-                    self.assertEqual(repr(function(*[exchanged(value, rng) for value in given])), wanted)
+            wanted = outcome(function, *given)
+            self.assertEqual(outcome(function, *as_lists(given)), wanted, (function.__name__, given))
+            for _ in range(2):
+                told = outcome(function, *[exchanged(value, rng) for value in given])
+                self.assertEqual(told, wanted, (function.__name__, given))
+
+    def test_the_same_call_answers_the_same_again(self):
+        told = [outcome(function, *given) for function, _, given in calls()]
+        again = [outcome(function, *copy.deepcopy(given)) for function, _, given in calls()]
+        self.assertEqual(told, again)
+
+    def test_most_of_the_calls_here_raise_nothing(self):
+        answered = {}
+        for function, _, given in calls():
+            fine = isinstance(outcome(function, *given), str)
+            answered.setdefault(function.__name__, []).append(fine)
+        for name, fine in answered.items():
+            self.assertGreater(sum(fine), 0, name)
 
     def test_arguments_by_name_give_equal_results(self):
-        for function, names, given in calls():
-            with self.subTest(function=function.__name__, given=given):
-                named = dict(reversed(list(zip(names, given))))
-                self.assertEqual(repr(function(**named)), repr(function(*given)))
+        for function, _, given in calls(1):
+            names = list(inspect.signature(function).parameters)
+            named = dict(reversed(list(zip(names, given))))
+            self.assertEqual(outcome(function, **named), outcome(function, *given), function.__name__)
 
     def test_nothing_that_is_handed_in_is_changed(self):
         for function, _, given in calls():
             for own in (given, as_lists(given)):
-                kept = copy.deepcopy(own)
-                function(*own)
-                self.assertEqual(repr(own), repr(kept))
+                kept = repr(own)
+                outcome(function, *own)
+                self.assertEqual(repr(own), kept)
 
     def test_what_is_refused_changes_nothing(self):
-        for function, names, given in calls():
-            if names[0] == "skin":
+        for function, kinds, given in calls(1):
+            if kinds[0] == "skin":
                 own = as_lists(given)
                 own[0][0][0] = [0, 0]
                 kept = copy.deepcopy(own)
-                self.assertRaises(Unfit, function, *own)
+                self.assertEqual(raised(function, *own), (Unfit, {}))
                 self.assertEqual(repr(own), repr(kept))
 
     def test_a_list_that_is_told_is_a_new_one(self):
-        lists = 0
-        for function, _, given in calls():
-            told = function(*given)
-            if isinstance(told, list):
-                lists += 1
-                kept = list(told)
-                told.append("more")
-                told.reverse()
-                self.assertEqual(function(*given), kept)
-        self.assertGreater(lists, 0)
+        found = set()
+        for function, _, given in calls(1):
+            if raised(function, *given)[0] is None:
+                told = function(*given)
+                if isinstance(told, list):
+                    found.add(function.__name__)
+                    kept = list(told)
+                    told.append("more")
+                    told.reverse()
+                    self.assertEqual(function(*given), kept)
+        self.assertEqual(found, {
+            "pieces", "edges", "classes", "all_turned", "all_kinds",
+        })
+
+    def test_no_list_stands_in_what_is_told(self):
+        for function, _, given in calls(1):
+            if raised(function, *given)[0] is None:
+                told = function(*given)
+                for part in told if isinstance(told, (list, tuple)) else [told]:
+                    self.assertNotIn("[", repr(part))
 
     def test_what_is_told_may_be_changed_with_no_effect_on_what_was_given(self):
         told = [["a", 0], ["b", 1]]
         skin = as_lists(TWIN)
-        for function, _, given in calls():
+        for function, _, given in calls(1):
             if len(given) == 1 and given[0] is PIECES:
                 function(told)
-            elif len(given) == 1 and given[0] is TWIN:
+            elif len(given) == 1 and given[0] is TWIN and raised(function, skin)[0] is None:
                 result = function(skin)
                 if isinstance(result, list):
                     result.clear()
         self.assertEqual((told, skin), ([["a", 0], ["b", 1]], as_lists(TWIN)))
 
     def test_true_and_false_are_no_numbers_in_a_skin(self):
-        for function, names, given in calls():
-            if names[0] == "skin":
+        for function, kinds, given in calls(1):
+            if kinds[0] == "skin":
                 for bad in with_one_bool(given[0]):
-                    with self.subTest(function=function.__name__, bad=bad):
-                        self.assertRaises(Unfit, function, bad, *given[1:])
+                    self.assertEqual(raised(function, bad, *given[1:]), (Unfit, {}))
 
     def test_a_list_that_holds_itself_is_unfit(self):
         round_list = []
         round_list.append(round_list)
-        for function, names, given in calls():
-            if names[0] in ("skin", "pieces"):
-                self.assertRaises(Unfit, function, round_list, *given[1:])
+        for function, kinds, given in calls(1):
+            for at, kind in enumerate(kinds):
+                if kind not in ("text", "piece", "any number"):
+                    own = given[:at] + [round_list] + given[at + 1:]
+                    self.assertEqual(raised(function, *own), (Unfit, {}), (function.__name__, kind))
+
+
+class UnfitTest(unittest.TestCase):
+    def test_whatever_stands_for_an_argument_else(self):
+        for function, kinds, given in calls(1):
+            for at, kind in enumerate(kinds):
+                for bad in unfit(kind, given[0] if kinds[0] == "skin" else None):
+                    own = given[:at] + [bad] + given[at + 1:]
+                    self.assertEqual(raised(function, *own), (Unfit, {}), (function.__name__, kind, bad))
+
+    def test_unfit_ahead_of_all_other_errors(self):
+        """Numbers that are there nowhere, and skins for which much is refused, ahead of what is unfit or behind it."""
+        missing = {"edge": -1, "field": 99, "corner": 10 ** 9}
+        for function, kinds, given in calls(1):
+            far = [missing.get(kind, own) for kind, own in zip(kinds, given)]
+            for at, kind in enumerate(kinds):
+                for bad in unfit(kind, given[0] if kinds[0] == "skin" else None)[:4]:
+                    own = far[:at] + [bad] + far[at + 1:]
+                    self.assertEqual(raised(function, *own), (Unfit, {}), (function.__name__, kind, bad))
+
+    def test_too_many_where_it_is_stated_and_nowhere_else(self):
+        wanted = {"classes", "all_kinds", "all_turned"}
+        found = {
+            function.__name__ for function, _, given in calls() if raised(function, *given)[0] is TooMany
+        }
+        self.assertEqual(found, wanted)
 
 
 def with_one_bool(skin):
@@ -135,6 +145,41 @@ def with_one_bool(skin):
 
 
 class ThingTest(unittest.TestCase):
+    def test_each_function_answers_true_or_false_whatever_the_thing(self):
+        for function, given in thing_calls():
+            for thing in odd_things():
+                told = function(*given, thing)
+                self.assertIsInstance(told, bool)
+                if told and function.__name__ in ("is_ring", "is_ring_of"):
+                    self.assertIs(slow_is_ring(given[0], thing), True)
+                elif told:
+                    # Else of these () alone is what some functions ask for.
+                    self.assertEqual((thing, type(thing)), ((), tuple))
+                    self.assertIn(function.__name__, ("is_lot", "is_class", "is_paired_classes", "is_lack"))
+
+    def test_a_skin_that_is_none_is_unfit_whatever_the_thing(self):
+        for function, given in thing_calls():
+            if given:
+                for thing in odd_things()[::3]:
+                    for bad in (None, given[0][:-1] + ((),), 0):
+                        self.assertEqual(raised(function, bad, *given[1:], thing), (Unfit, {}))
+
+    def test_things_by_name_and_skins_as_lists(self):
+        for function, given in thing_calls():
+            if given:
+                names = list(inspect.signature(function).parameters)
+                for thing in ((), (0,), ((0, 0),), (1, 1), (0, 0)):
+                    told = function(*given, thing)
+                    self.assertIs(function(*as_lists(given), thing), told)
+                    self.assertIs(function(**dict(zip(names, given + [thing]))), told)
+
+    def test_a_thing_is_not_changed(self):
+        for function, given in thing_calls():
+            for thing in ([[0]], [(0, [1])], ([0, 1],), [[], [[]]]):
+                kept = copy.deepcopy(thing)
+                self.assertIs(function(*given, thing), False)
+                self.assertEqual(repr(thing), repr(kept))
+
     def test_odd_things_are_answered_false(self):
         for thing in odd_things():
             self.assertIs(is_skin(thing), False)
@@ -174,12 +219,14 @@ class ThingTest(unittest.TestCase):
         self.assertIs(is_crossing(PAIR, [2, 3]), False)
 
     def test_twenty_deep(self):
+        skins = some_skins()[:4]
         for inner in (0, True, None, "a", (), [], "b" * 1000):
             for make in (tuple, list):
                 thing = inner
                 for depth in range(20):
                     self.assertIs(is_skin(thing), False)
-                    self.assertIs(is_crossing(TWIN, thing), False)
+                    for skin in skins:
+                        self.assertIs(is_crossing(skin, thing), False)
                     thing = make([thing] * (1 + depth % 2))
 
 

@@ -27,6 +27,11 @@ BARRED_WORDS = re.compile(
     r"\b(type|typing|typing_extensions|enum|Enum|IntEnum|StrEnum|Flag|IntFlag|Generic|Protocol|ABC|ABCMeta|namedtuple|"
     r"NamedTuple|TypedDict|TYPE_CHECKING|abstractmethod)\b|dataclass|overload|contextmanager|_wall|_WallAttr"
 )
+BARRED_NAMES = set(
+    "register mro elements open input law version_info with_traceback add_note attrgetter breakpoint builtins compile "
+    "copyright credits delattr dir eval exec exit gc getattr globals hasattr help id importlib license locals "
+    "methodcaller os quit setattr super type vars sys".split()
+)
 BARRED_NODES = (
     ast.Global, ast.AsyncFunctionDef, ast.Await, ast.GeneratorExp, ast.Div, ast.Import, ast.MatMult, ast.TryStar,
     ast.AnnAssign,
@@ -71,6 +76,20 @@ def top_names(tree):
             yield node.name
         elif isinstance(node, ast.Assign):
             yield from (own.id for own in node.targets)
+
+
+def makes_set(node):
+    """Whether this is a set literal, a set comprehension or set(..)."""
+    return isinstance(node, (ast.Set, ast.SetComp)) or (
+        isinstance(node, ast.Call) and getattr(node.func, "id", "") == "set"
+    )
+
+
+def joined_parts(node):
+    """What is joined by the signs -, &, | and ^; the node itself, if it is no such sum."""
+    if isinstance(node, ast.BinOp) and isinstance(node.op, (ast.Sub, ast.BitAnd, ast.BitOr, ast.BitXor)):
+        return joined_parts(node.left) + joined_parts(node.right)
+    return [node]
 
 
 def docstrings(tree):
@@ -163,10 +182,11 @@ class LanguageTest(unittest.TestCase):
     def test_builtins(self):
         for name, tree in trees():
             bound = set(bound_names(tree)) | set(top_names(tree))
-            hidden = [own for own in bound if hasattr(builtins, own) and not own.startswith("__")]
+            # No builtin is called _, but for what doctest, or an interpreter, keeps there.
+            hidden = [own for own in bound if hasattr(builtins, own) and own != "_" and not own.startswith("__")]
             self.assertEqual(hidden, [], name)
             for node in ast.walk(tree):
-                if isinstance(node, ast.Name) and hasattr(builtins, node.id):
+                if isinstance(node, ast.Name) and node.id != "_" and hasattr(builtins, node.id):
                     self.assertIn(node.id, BUILTINS, (name, node.lineno))
 
     def test_no_name_hides_an_import_or_a_class(self):
@@ -196,17 +216,80 @@ class LanguageTest(unittest.TestCase):
             fine = set()
             for node in ast.walk(tree):
                 if isinstance(node, ast.Call) and getattr(node.func, "id", "") in ("sorted", "len") and not node.keywords:
-                    fine |= {id(own) for own in node.args}
+                    fine |= {id(own) for part in node.args for own in joined_parts(part)}
                 elif isinstance(node, ast.Compare):
                     fine |= {id(own) for own in node.comparators}
                 elif isinstance(node, ast.Assign):
                     fine.add(id(node.value))
             for node in ast.walk(tree):
-                is_set = isinstance(node, (ast.Set, ast.SetComp)) or (
-                    isinstance(node, ast.Call) and getattr(node.func, "id", "") == "set"
-                )
-                if is_set:
+                if makes_set(node):
                     self.assertIn(id(node), fine, (name, node.lineno))
+
+    def test_a_stored_set_is_asked_and_measured_alone(self):
+        for name, tree in trees():
+            for function in ast.walk(tree):
+                if isinstance(function, ast.FunctionDef):
+                    self.check_stored_sets(name, function)
+
+    def check_stored_sets(self, name, function):
+        stored = [
+            node.targets[0].id for node in ast.walk(function) if isinstance(node, ast.Assign) and makes_set(node.value)
+        ]
+        self.assertEqual(len(stored), len(set(stored)), (name, function.name))
+        fine = set()
+        for node in ast.walk(function):
+            if isinstance(node, ast.Call) and getattr(node.func, "id", "") in ("len", "sorted"):
+                fine |= {id(own) for own in node.args}
+            elif isinstance(node, ast.Compare):
+                fine |= {id(own) for own in node.comparators}
+            elif isinstance(node, ast.Attribute) and node.attr in ("add", "discard"):
+                fine.add(id(node.value))
+        for node in ast.walk(function):
+            if isinstance(node, ast.Name) and node.id in stored and isinstance(node.ctx, ast.Load):
+                self.assertIn(id(node), fine, (name, node.lineno))
+
+    def test_what_is_drawn_from_itertools_is_iterated_at_once(self):
+        for name, tree in trees():
+            fine = set()
+            for node in ast.walk(tree):
+                if isinstance(node, (ast.For, ast.comprehension)):
+                    fine.add(id(node.iter))
+                elif isinstance(node, ast.Call) and getattr(node.func, "id", "") in ("list", "tuple", "sorted"):
+                    fine |= {id(own) for own in node.args}
+            for node in ast.walk(tree):
+                if isinstance(node, ast.Call) and getattr(node.func, "id", "") in LIBRARY["itertools"]:
+                    self.assertIn(id(node), fine, (name, node.lineno))
+
+    def test_what_a_loop_goes_over_is_not_changed_in_it(self):
+        changing = ("append", "extend", "insert", "pop", "remove", "reverse", "clear", "update", "setdefault", "sort")
+        for name, tree in trees():
+            for loop in ast.walk(tree):
+                if isinstance(loop, ast.For):
+                    over = {node.id for node in ast.walk(loop.iter) if isinstance(node, ast.Name)}
+                    for node in [own for part in loop.body for own in ast.walk(part)]:
+                        if isinstance(node, ast.Attribute) and node.attr in changing:
+                            self.assertNotIn(getattr(node.value, "id", None), over, (name, node.lineno))
+                        if isinstance(node, ast.Subscript) and not isinstance(node.ctx, ast.Load):
+                            self.assertNotIn(getattr(node.value, "id", None), over, (name, node.lineno))
+
+    def test_names(self):
+        for name, tree in trees():
+            for own in list(bound_names(tree)) + list(top_names(tree)):
+                self.assertRegex(own, r"^(_|_?[A-Za-z][A-Za-z0-9_]*|__init__|__eq__)$", name)
+                self.assertNotIn(own, BARRED_NAMES, name)
+                self.assertNotRegex(own, r"^_?(wall|pe_|dcw_|enum_|cm_|twin_re_|lay_|law_|stub_|sre)", name)
+            for node in ast.walk(tree):
+                if isinstance(node, ast.Name) and node.id == "_":
+                    self.assertNotIsInstance(node.ctx, ast.Load, (name, node.lineno))
+
+    def test_exponents_and_calls_of_builtins(self):
+        for name, tree in trees():
+            for node in ast.walk(tree):
+                if isinstance(node, ast.BinOp) and isinstance(node.op, ast.Pow):
+                    self.assertIsInstance(node.right, ast.Constant, (name, node.lineno))
+                if isinstance(node, ast.Call) and isinstance(node.func, ast.Name) and node.func.id in BUILTINS:
+                    self.assertLessEqual({own.arg for own in node.keywords}, {"key", "reverse", "default", "start"})
+                    self.assertFalse([own for own in node.args if isinstance(own, ast.Starred)], (name, node.lineno))
 
     def test_words_and_strings(self):
         for name, tree in trees():

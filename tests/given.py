@@ -1,0 +1,190 @@
+"""For each function of the interface, what its arguments are; what is handed in for each kind, and what is unfit."""
+
+import importlib
+import random
+
+from handlepairs.arrows import good_arrows
+from handlepairs.trees import loops
+from tests.drawn import PAIR, PILLOW, TWIN, drawn_skins, odd_things
+from tests.shapes import (
+    FOUR, ONE, QUAD, SIX, drawn_arrows, drawn_class, drawn_fields, drawn_lot, drawn_ring, drawn_simple_ring,
+    skin_with_handles,
+)
+from tests.slow import slow_corners, slow_handles, slow_pairings
+from tests.test_interface import FUNCTIONS
+
+PIECES = [("ab", 0), ("-1", 2), ("c", 2)]
+
+# What a name stands for, unless OWN says otherwise.
+MEANS = {
+    "skin": "skin", "thing": "thing", "text": "text", "pieces": "pieces", "piece": "piece", "crossing": "crossing",
+    "edge": "edge", "field": "field", "side": "side", "corner": "corner", "order": "order", "turns": "turns",
+    "lot": "lot", "ring": "ring", "second": "ring", "one": "class", "kind": "class", "arrows": "arrows",
+    "fields": "fields", "pairing": "pairing", "table": "table", "far_table": "table",
+}
+OWN = {
+    ("piece_of", "number"): "any number", ("good_at", "number"): "number", ("left_ring", "number"): "loop number",
+    ("edges_joining", "other"): "field", ("corner_way", "other"): "corner", ("put_together", "other"): "class",
+    ("meetings", "other"): "class", ("class_moved", "other"): "class", ("mark_moved", "other"): "class",
+    ("fields_between", "other"): "arrows", ("are_akin", "other"): "arrows", ("unlike_ring", "other"): "arrows",
+    ("parted", "other"): "pairing", ("class_between", "other"): "pairing",
+    ("left_sides", "ring"): "simple ring", ("sticking_out", "ring"): "simple ring", ("sticks", "ring"): "simple ring",
+    ("q_of_ring", "ring"): "simple ring",
+    ("unlike_ring", "arrows"): "good arrows", ("mark_moved", "arrows"): "good arrows",
+}
+
+
+def kind_of_argument(name, argument):
+    return OWN.get((name, argument)) or MEANS[argument]
+
+
+def functions_with_kinds():
+    """(function, kinds of its arguments) of each function of the interface that has landed."""
+    for module_name, functions in FUNCTIONS.items():
+        module = importlib.import_module("handlepairs." + module_name)
+        for name, arguments in functions.items():
+            yield getattr(module, name), [kind_of_argument(name, own) for own in arguments.split()]
+
+
+def some_skins():
+    """Skins of many sizes, with handles, more than 3 of them, and without."""
+    rng = random.Random(31)
+    told = [ONE, TWIN, PILLOW, PAIR, QUAD, FOUR, SIX] + list(drawn_skins(31, 1))
+    return told + [skin_with_handles(rng, many, handles) for many, handles in ((6, 3), (8, 4), (12, 3))]
+
+
+def good_ones(rng, skin):
+    """GOOD ARROWS, drawn; if there are none, some that are not."""
+    if len(skin) % 2:
+        return drawn_arrows(rng, skin)
+    told = list(good_arrows(skin))
+    for loop in loops(skin):
+        if rng.randrange(2):
+            for edge in loop:
+                told[edge] = 1 - told[edge]
+    return tuple(told)
+
+
+def drawn_given(rng, kind, skin, wanted=""):
+    """What is fit for this kind, of the skin if it has such."""
+    drawn = {
+        "crossing": lambda: (rng.randrange(len(skin)), rng.randrange(4)),
+        "order": lambda: tuple(rng.sample(range(len(skin)), len(skin))),
+        "turns": lambda: tuple(rng.randrange(4) for _ in skin),
+        "edge": lambda: rng.randrange(2 * len(skin)), "field": lambda: rng.randrange(len(skin)),
+        "corner": lambda: rng.randrange(len(slow_corners(skin))), "side": lambda: rng.randrange(4),
+        "loop number": lambda: rng.randrange(max(1, 2 * slow_handles(skin))),
+        "number": lambda: rng.choice((0, 1, 5, 10 ** 20)), "any number": lambda: rng.choice((0, -7, 10 ** 11)),
+        "lot": lambda: drawn_lot(rng, skin), "ring": lambda: drawn_ring(rng, skin),
+        "simple ring": lambda: drawn_simple_ring(rng, skin), "class": lambda: drawn_class(rng, skin),
+        "arrows": lambda: rng.choice((drawn_arrows, good_ones))(rng, skin),
+        "good arrows": lambda: good_ones(rng, skin), "fields": lambda: drawn_fields(rng, skin),
+        "pairing": lambda: rng.choice(slow_pairings(skin) or [()]),
+        "table": lambda: rng.choice(TABLES), "text": lambda: rng.choice(("ab # c\n-1", "", "a\n\nb")),
+        "pieces": lambda: rng.choice((PIECES, [])), "piece": lambda: rng.choice(("-12", "07", "")),
+        "skin": lambda: skin,
+    }
+    return drawn[kind]()
+
+
+TABLES = [((0, 1), (1, 1)), ((1, 1), (1, 0)), ((1, 0), (0, 1))]
+
+
+def calls(each=3):
+    """(function, kinds, arguments) of calls of each function without a thing; some of them raise an error."""
+    rng = random.Random(32)
+    skins = some_skins()
+    for function, kinds in functions_with_kinds():
+        if "thing" not in kinds:
+            for skin in skins if "skin" in kinds else [None]:
+                for _ in range(each if len(kinds) > 1 or skin is None else 1):
+                    yield function, kinds, [drawn_given(rng, kind, skin) for kind in kinds]
+
+
+def thing_calls():
+    """(function, skin and others ahead of the thing) of each function with a thing, for some skins."""
+    rng = random.Random(33)
+    for function, kinds in functions_with_kinds():
+        if "thing" in kinds:
+            assert kinds[-1] == "thing"
+            for skin in some_skins() if len(kinds) > 1 else [None]:
+                yield function, [drawn_given(rng, kind, skin) for kind in kinds[:-1]]
+
+
+def outcome(function, *given, **named):
+    """What the call tells, written out, or the error that it raises and what that keeps."""
+    try:
+        return repr(function(*given, **named))
+    except (LookupError, ValueError) as error:
+        return type(error), vars(error)
+
+
+NO_NUMBERS = [None, True, False, "0", "", (0,), [0], (), 1.0, {}, {0: 0}]
+NO_SKINS = [
+    None, 0, True, "skin", (), [], {}, 1.5, b"skin", TWIN[:1], [TWIN], ((),), (((0, 0),) * 4,), (((0, 1), (0, 0), (0, 3)),),
+    ((((0, 1), (0, 0), (0, 3), (0, True))),), TWIN + TWIN,
+]
+
+
+def sets_that_are_none(many):
+    """What is no set of numbers from 0 below many, whatever it is asked for."""
+    return [
+        None, 0, True, "0", "", {0: 0}, 1.5, (many,), (-1,), (0, 0), (True,), (False,), (None,), ("0",), ((0,),), [[0]],
+        (0, True), (0, 10 ** 30), tuple(range(many + 1)), (0, 1.0),
+    ] + ([(1, 0), (0, 1, 0)] if many > 1 else [])
+
+
+def bits_that_are_none(many):
+    """What is no tuple of so many bits."""
+    told = [None, 0, True, "0" * many, {0: 0}, 1.5, (0,) * (many + 1), ((0,) * many,), [[0] * many]]
+    if many:
+        told += [(0,) * (many - 1), ()]
+        told += [(0,) * (many - 1) + (bad,) for bad in (2, -1, True, False, None, "0", (0,), [1], 1.0, 10 ** 30)]
+    return told
+
+
+def unfit(kind, skin):
+    """What Unfit() is raised for, handed in for this kind."""
+    if kind == "skin":
+        return NO_SKINS
+    if kind in ("edge", "field", "corner"):
+        return NO_NUMBERS
+    if kind == "number":
+        return NO_NUMBERS + [-1, -10 ** 30]
+    if kind == "loop number":
+        return NO_NUMBERS + [-1, 2 * slow_handles(skin), 10 ** 30]
+    if kind == "side":
+        return NO_NUMBERS + [-1, 4, 10 ** 30]
+    if kind in ("lot", "pairing"):
+        return sets_that_are_none(2 * len(skin)) + ([()] if kind == "pairing" else [])
+    if kind == "fields":
+        return sets_that_are_none(len(skin))
+    if kind == "class":
+        return bits_that_are_none(2 * slow_handles(skin))
+    if kind in ("arrows", "good arrows"):
+        return bits_that_are_none(2 * len(skin))
+    if kind in ("ring", "simple ring"):
+        return no_rings(skin)
+    return other_unfit(kind, skin)
+
+
+def no_rings(skin):
+    crossing = (0, 0)
+    there = skin[0][0]
+    return [
+        None, 0, True, "00", {0: 0}, 1.5, (), [], crossing, (crossing, there, None), (crossing, there, (0, 4)),
+        ((len(skin), 0),), ((-1, 0),), ((0, -1),), ((0, 4),), ((0, 0, 0),), ((0,),), ((0, True),), ((False, 0),), (("0", 0),),
+        ([crossing],),
+    ] + ([(crossing,), (crossing, crossing)] if there[0] != 0 else [])
+
+
+def other_unfit(kind, skin):
+    many = len(skin) if skin else 0
+    told = {
+        "crossing": [own for own in odd_things()] + [(many, 0), (0, 4), (-1, 0), (0, -1), (0, True), (0,), [0, 4], 1.5],
+        "order": [None, 0, (), (0,) * (many + 1), (many,) * many, (-1,) * many, (True,) * many, {0: 0}],
+        "turns": [None, 0, (), (0,) * (many + 1), (4,) * many, (-1,) * many, (True,) * many, {0: 0}],
+        "table": [None, 0, True, "1", {0: 0}, (1,), ((1, 0),), ((2,),), ((-1,),), ((True,),), ((None,),), ([[1]],), ((1,), (0,))],
+        "pieces": [None, 0, [("A", 0)], [("a", -1)], [("a", 1), ("b", 0)], [("a", True)], ["a0"], "ab", [("a",)], [("", 0)]],
+    }
+    return told.get(kind, [])
