@@ -69,7 +69,7 @@ class EveryFunctionTest(unittest.TestCase):
                     told.reverse()
                     self.assertEqual(function(*given), kept)
         self.assertEqual(found, {
-            "pieces", "edges", "classes", "all_turned", "all_kinds",
+            "pieces", "edges", "classes", "all_turned", "all_kinds", "met_evenly", "simple_rings", "all_pairings",
         })
 
     def test_no_list_stands_in_what_is_told(self):
@@ -126,7 +126,9 @@ class UnfitTest(unittest.TestCase):
                     self.assertEqual(raised(function, *own), (Unfit, {}), (function.__name__, kind, bad))
 
     def test_too_many_where_it_is_stated_and_nowhere_else(self):
-        wanted = {"classes", "all_kinds", "all_turned"}
+        wanted = {
+            "classes", "all_kinds", "all_turned", "met_evenly", "q_row", "mark", "marks", "simple_rings", "all_pairings",
+        }
         found = {
             function.__name__ for function, _, given in calls() if raised(function, *given)[0] is TooMany
         }

@@ -39,6 +39,26 @@ FUNCTIONS = {
         "are_akin": "skin arrows other", "unlike_ring": "skin arrows other", "all_turned": "skin arrows",
         "arrows_of": "skin kind", "many_kinds": "skin", "all_kinds": "skin",
     },
+    "meetings": {
+        "left_ring": "skin number", "meeting_table": "skin", "form": "skin", "meetings": "skin one other",
+        "rings_meet": "skin ring second", "class_that_meets": "skin one", "met_evenly": "skin one",
+        "table_times": "table far_table", "table_back": "table",
+    },
+    "sticks": {
+        "left_sides": "skin ring", "sticking_out": "skin ring pairing", "sticks": "skin ring pairing",
+        "q_of_ring": "skin arrows pairing ring", "simple_rings": "skin",
+    },
+    "marks": {
+        "q_of_class": "skin arrows pairing one", "q_row": "skin arrows pairing", "mark": "skin arrows pairing",
+        "mark_by_pairs": "skin arrows pairing", "paired_classes": "skin", "is_paired_classes": "skin thing",
+        "class_moved": "skin kind other", "mark_moved": "skin arrows pairing other", "marks": "skin pairing",
+        "marks_one": "skin",
+    },
+    "pairings": {
+        "is_pairing": "skin thing", "all_pairings": "skin", "some_pairing": "skin", "odd_parts": "skin fields",
+        "lack": "skin", "is_lack": "skin thing", "parted": "skin pairing other",
+        "class_between": "skin pairing other", "moved_along": "skin pairing ring",
+    },
 }
 
 
