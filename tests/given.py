@@ -65,7 +65,7 @@ def good_ones(rng, skin):
     return tuple(told)
 
 
-def drawn_given(rng, kind, skin, wanted=""):
+def drawn_given(rng, kind, skin):
     """What is fit for this kind, of the skin if it has such."""
     drawn = {
         "crossing": lambda: (rng.randrange(len(skin)), rng.randrange(4)),

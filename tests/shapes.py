@@ -1,6 +1,6 @@
 """More named skins, and what is drawn of a skin: rings, lots, arrows, classes, pairings."""
 
-from tests.drawn import BALL_OF_ONE, ONE, PAIR, PILLOW, TWIN, drawn_skin, grid, ring_of, small_skins
+from tests.drawn import BALL_OF_ONE, ONE, PAIR, PILLOW, TWIN, drawn_skin, drawn_skins, grid, ring_of
 from tests.slow import slow_handles, slow_pairings, step_home
 
 TWINS = (((1, 0), (1, 1), (1, 2), (1, 3)), ((0, 0), (0, 1), (0, 2), (0, 3)))
@@ -68,17 +68,25 @@ def named_skins():
     return [PILLOW, TWIN, PAIR, BALL_OF_ONE, ONE, TWINS, ROW, BAND, QUAD, FOUR, THREE, SIX, lacking((1, 1, 1, 1))]
 
 
+def many_skins(seed, each=2):
+    """The named ones, and drawn ones of 1 to 12 fields."""
+    return named_skins() + list(drawn_skins(seed, each))
+
+
+def even(skins):
+    return [skin for skin in skins if len(skin) % 2 == 0]
+
+
+def odd(skins):
+    return [skin for skin in skins if len(skin) % 2 == 1]
+
+
 def skin_with_handles(rng, many, handles):
     """A drawn SKIN of so many fields and handles."""
     while True:
         skin = drawn_skin(rng, many, rng.choice((handles, 2 * handles, 4 * many)) if handles else 0)
         if slow_handles(skin) == handles:
             return skin
-
-
-def some_small_skins(rng, many):
-    """Some of all SKINS of one and of two fields."""
-    return rng.sample(list(small_skins()), many)
 
 
 def drawn_ring(rng, skin):

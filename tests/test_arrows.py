@@ -9,26 +9,14 @@ from handlepairs.arrows import (
 )
 from handlepairs.errors import CanNot, Odd, Unfit
 from handlepairs.trees import corner_tree
-from tests.drawn import (
-    BALL_OF_ONE, ONE, PAIR, PILLOW, TWIN, drawn_skins, grid, odd_things, raised, ring_of, small_skins,
+from tests.drawn import BALL_OF_ONE, ONE, PAIR, PILLOW, TWIN, grid, odd_things, raised, ring_of, small_skins
+from tests.shapes import (
+    QUAD, ROW, SIX, THREE, chain_of, drawn_arrows, drawn_lot, drawn_ring, even, many_skins, odd, skin_with_handles,
 )
-from tests.shapes import QUAD, ROW, SIX, THREE, chain_of, drawn_arrows, drawn_lot, drawn_ring, named_skins, skin_with_handles
 from tests.slow import (
     all_bits, ends_evenly, slow_against, slow_all_good, slow_contrary, slow_corners, slow_handles, slow_is_good,
     slow_lot_of_ring, slow_ring_round,
 )
-
-
-def many_skins(seed, each=2):
-    return named_skins() + list(drawn_skins(seed, each))
-
-
-def even(skins):
-    return [skin for skin in skins if len(skin) % 2 == 0]
-
-
-def odd(skins):
-    return [skin for skin in skins if len(skin) % 2 == 1]
 
 
 class IsArrowsTest(unittest.TestCase):

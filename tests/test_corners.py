@@ -12,30 +12,14 @@ from tests.drawn import (
     BALL_OF_ONE, ONE, PAIR, PILLOW, TWIN, drawn_order, drawn_skin, drawn_skins, grid, odd_things, raised, ring_of,
     small_skins,
 )
-
-
-def corners_by_sewing(skin):
-    """The corners as sets: pairs are put together that are one point of sides sewn to one another."""
-    place = {(field, side): {(field, side)} for field in range(len(skin)) for side in range(4)}
-
-    def put_together(one, other):
-        if place[one] is not place[other]:
-            both = place[one] | place[other]
-            for pair in both:
-                place[pair] = both
-
-    for field, row in enumerate(skin):
-        for side, (there, at) in enumerate(row):
-            put_together((field, side), (there, (at + 1) % 4))
-            put_together((field, (side + 1) % 4), (there, at))
-    return sorted({frozenset(own) for own in place.values()}, key=min)
+from tests.slow import slow_corners
 
 
 class CornersTest(unittest.TestCase):
     def check_corners(self, skin):
         told = corners(skin)
         self.assertIsInstance(told, tuple)
-        self.assertEqual([set(pairs) for pairs in told], [set(own) for own in corners_by_sewing(skin)])
+        self.assertEqual([set(pairs) for pairs in told], [set(own) for own in slow_corners(skin)])
         for pairs in told:
             self.assertEqual(pairs[0], min(pairs))
             self.assertEqual(len(set(pairs)), len(pairs))

@@ -10,28 +10,14 @@ from handlepairs.kinds import (
     all_kinds, all_turned, are_akin, arrows_of, fields_between, kind_of, many_kinds, turned_at, unlike_ring,
 )
 from handlepairs.trees import loops
-from tests.drawn import (
-    BALL_OF_ONE, ONE, PAIR, PILLOW, TWIN, drawn_skin, drawn_skins, odd_things, raised, ring_of, small_skins,
-)
+from tests.drawn import BALL_OF_ONE, ONE, PAIR, PILLOW, TWIN, drawn_skin, odd_things, raised, ring_of, small_skins
 from tests.shapes import (
-    BAND, FOUR, QUAD, ROW, chain_of, drawn_arrows, drawn_class, drawn_fields, drawn_ring, named_skins,
+    BAND, FOUR, QUAD, ROW, chain_of, drawn_arrows, drawn_class, drawn_fields, drawn_ring, even, many_skins, odd,
     skin_with_handles,
 )
 from tests.slow import (
     all_bits, slow_against, slow_all_good, slow_handles, slow_is_good, slow_joined, slow_kind, slow_turned_at,
 )
-
-
-def many_skins(seed, each=2):
-    return named_skins() + list(drawn_skins(seed, each))
-
-
-def even(skins):
-    return [skin for skin in skins if len(skin) % 2 == 0]
-
-
-def odd(skins):
-    return [skin for skin in skins if len(skin) % 2 == 1]
 
 
 def all_sets(skin):

@@ -12,19 +12,15 @@ from handlepairs.marks import (
 from handlepairs.meetings import meetings
 from handlepairs.pairings import class_between
 from handlepairs.rings import put_together
-from tests.drawn import BALL_OF_ONE, ONE, PILLOW, TWIN, drawn_skins, grid, odd_things, raised, ring_of
+from tests.drawn import BALL_OF_ONE, ONE, PILLOW, TWIN, grid, odd_things, raised, ring_of
 from tests.shapes import (
-    FOUR, QUAD, SIX, chain_of, drawn_arrows, drawn_class, drawn_pairing, named_skins, skin_with_handles,
+    FOUR, QUAD, SIX, chain_of, drawn_arrows, drawn_class, drawn_pairing, many_skins, skin_with_handles,
     skins_with_pairings,
 )
 from tests.slow import (
     all_bits, slow_class_of_ring, slow_handle_rings, slow_handles, slow_kind, slow_meetings, slow_pairings,
     slow_q_of_ring, slow_sign, slow_simple_rings,
 )
-
-
-def many_skins(seed, each=2):
-    return named_skins() + list(drawn_skins(seed, each))
 
 
 def with_pairings(seed, each=1, handles=(0, 1, 2, 3)):

@@ -9,19 +9,15 @@ from handlepairs.meetings import (
     class_that_meets, form, left_ring, meeting_table, meetings, met_evenly, rings_meet, table_back, table_times,
 )
 from handlepairs.rings import is_ring, put_together
-from tests.drawn import BALL_OF_ONE, ONE, PILLOW, TWIN, drawn_skins, raised, ring_of, small_skins
+from tests.drawn import BALL_OF_ONE, ONE, PILLOW, TWIN, raised, ring_of, small_skins
 from tests.shapes import (
-    QUAD, ROW, SIX, THREE, chain_of, drawn_bits, drawn_class, drawn_ring, drawn_simple_ring, named_skins,
+    QUAD, ROW, SIX, THREE, chain_of, drawn_bits, drawn_class, drawn_ring, drawn_simple_ring, many_skins,
     skin_with_handles,
 )
 from tests.slow import (
     all_bits, slow_class_of_ring, slow_contrary, slow_edge_of, slow_edges, slow_handles, slow_loops, slow_lots,
     slow_meetings,
 )
-
-
-def many_skins(seed, each=2):
-    return named_skins() + list(drawn_skins(seed, each))
 
 
 def slow_left_ring(skin, number):

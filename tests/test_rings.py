@@ -10,19 +10,15 @@ from handlepairs.rings import (
     lot_of_ring, put_together, ring_back, ring_from, ring_of_class, ring_round,
 )
 from handlepairs.trees import handle_rings
-from tests.drawn import BALL_OF_ONE, ONE, PILLOW, TWIN, drawn_skins, odd_things, raised, ring_of, small_skins
+from tests.drawn import BALL_OF_ONE, ONE, PILLOW, TWIN, odd_things, raised, ring_of, small_skins
 from tests.shapes import (
-    ROW, SIX, THREE, TWINS, chain_of, drawn_class, drawn_lot, drawn_ring, drawn_simple_ring, named_skins,
+    ROW, SIX, THREE, TWINS, chain_of, drawn_class, drawn_lot, drawn_ring, drawn_simple_ring, many_skins,
     skin_with_handles,
 )
 from tests.slow import (
     all_bits, slow_class_of_lot, slow_class_of_ring, slow_contrary, slow_corners, slow_handles, slow_is_ring,
     slow_is_simple, slow_lot_of_ring, slow_ring_round,
 )
-
-
-def many_skins(seed, each=2):
-    return named_skins() + list(drawn_skins(seed, each))
 
 
 def some_rings(rng, skin, many):

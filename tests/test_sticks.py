@@ -7,21 +7,15 @@ from handlepairs.arrows import good_arrows
 from handlepairs.errors import CanNot, TooMany, Unfit
 from handlepairs.rings import is_simple, ring_back
 from handlepairs.sticks import left_sides, q_of_ring, simple_rings, sticking_out, sticks
-from tests.drawn import (
-    BALL_OF_ONE, ONE, PILLOW, TWIN, drawn_skin, drawn_skins, grid, odd_things, raised, ring_of, small_skins,
-)
+from tests.drawn import BALL_OF_ONE, ONE, PILLOW, TWIN, drawn_skin, grid, odd_things, raised, ring_of, small_skins
 from tests.shapes import (
     FOUR, JUST_ENOUGH, QUAD, TWO_MORE, chain_of, drawn_arrows, drawn_fields, drawn_pairing, drawn_simple_ring,
-    named_skins, skin_with_handles, skins_with_pairings,
+    many_skins, named_skins, skin_with_handles, skins_with_pairings,
 )
 from tests.slow import (
     slow_class_of_ring, slow_handles, slow_left_sides, slow_pairings, slow_q_of_ring, slow_simple_rings, slow_sticks,
     slow_turned_at,
 )
-
-
-def many_skins(seed, each=2):
-    return named_skins() + list(drawn_skins(seed, each))
 
 
 def with_pairings(seed, each=2):

@@ -10,16 +10,12 @@ from handlepairs.trees import (
     come_by, corner_tree, corner_way, field_tree, handle_rings, is_lot, joins_corners, joins_fields, loops, loose,
     tree_order, way_to,
 )
-from tests.drawn import BALL_OF_ONE, ONE, PILLOW, TWIN, drawn_skins, odd_things, raised, ring_of, small_skins
-from tests.shapes import QUAD, ROW, SIX, chain_of, drawn_lot, named_skins
+from tests.drawn import BALL_OF_ONE, ONE, PILLOW, TWIN, odd_things, raised, ring_of, small_skins
+from tests.shapes import QUAD, ROW, SIX, chain_of, drawn_lot, many_skins, named_skins
 from tests.slow import (
     ends_evenly, slow_contrary, slow_corners, slow_corners_hang_together, slow_edge_of, slow_edges, slow_ends,
     slow_fields_hang_together, slow_handle_rings, slow_handles, slow_joined, slow_loops, slow_lots, slow_tree,
 )
-
-
-def many_skins(seed, each=2):
-    return named_skins() + list(drawn_skins(seed, each))
 
 
 class IsLotTest(unittest.TestCase):
