@@ -6,7 +6,7 @@ Below the functions of the interface stand those that take what is already known
 from handlepairs.bits import are_bits
 from handlepairs.corners import crossings_round, handle_number, rounds
 from handlepairs.errors import CanNot, Odd, Unfit
-from handlepairs.given import as_tuples, is_number
+from handlepairs.given import as_tuples, check_from_0
 from handlepairs.rings import fit_ring
 from handlepairs.skins import SIDES, edge_numbers, fit_skin
 from handlepairs.trees import corner_tree_lot, corner_ways, fit_lot, parted_by
@@ -72,8 +72,7 @@ def many_good(skin):
 def good_at(skin, number):
     """The GOOD ARROWS with the bits of the number at the EDGES that are not of the CORNER TREE."""
     told = fit_skin(skin)
-    if not is_number(number) or number < 0:
-        raise Unfit()
+    check_from_0(number)
     check_even(told)
     if number >= good_number(told):
         raise CanNot()

@@ -20,9 +20,26 @@ def is_tuple_of(thing, many):
 
 def is_set_below(thing, many):
     """Whether thing is a set of numbers from 0, each below many."""
-    if not isinstance(thing, tuple) or not all([is_below(part, many) for part in thing]):
+    return is_set_from_0(thing) and all([part < many for part in thing])
+
+
+def is_set_from_0(thing):
+    """Whether thing is a set of numbers from 0."""
+    if not isinstance(thing, tuple) or not all([is_number(part) and part >= 0 for part in thing]):
         return False
-    return all([one < other for one, other in zip(thing, thing[1:])])
+    return is_ascending(thing)
+
+
+def is_ascending(parts):
+    """Whether each of the parts is above the one ahead of it."""
+    return all([one < other for one, other in zip(parts, parts[1:])])
+
+
+def is_same(thing, told):
+    """Whether thing is just what is told, a number or a tuple of such: a list is no tuple, True is no number."""
+    if isinstance(told, tuple):
+        return is_tuple_of(thing, len(told)) and all([is_same(part, own) for part, own in zip(thing, told)])
+    return is_number(thing) and thing == told
 
 
 def as_tuples(value, depth):
@@ -38,4 +55,10 @@ def as_tuples(value, depth):
 def check_numbers(*things):
     """Raises Unfit() unless all things are numbers."""
     if not all([is_number(thing) for thing in things]):
+        raise Unfit()
+
+
+def check_from_0(*things):
+    """Raises Unfit() unless all things are numbers from 0."""
+    if not all([is_number(thing) and thing >= 0 for thing in things]):
         raise Unfit()

@@ -1,14 +1,15 @@
 """For each function of the interface, what its arguments are; what is handed in for each kind, and what is unfit."""
 
+import functools
 import importlib
 import random
 
 from handlepairs.arrows import good_arrows
 from handlepairs.trees import loops
-from tests.drawn import PAIR, PILLOW, TWIN, drawn_skins, odd_things
+from tests.drawn import PAIR, PILLOW, TWIN, drawn_skins, odd_things, raised
 from tests.shapes import (
-    FOUR, ONE, QUAD, SIX, drawn_arrows, drawn_class, drawn_fields, drawn_lot, drawn_ring, drawn_simple_ring,
-    skin_with_handles,
+    FOUR, ONE, QUAD, SIX, drawn_arrows, drawn_class, drawn_fields, drawn_lot, drawn_ring, drawn_simple_ring, drawn_table,
+    drawn_worths, skin_with_handles,
 )
 from tests.slow import slow_corners, slow_handles, slow_pairings
 from tests.test_interface import FUNCTIONS
@@ -20,7 +21,7 @@ MEANS = {
     "skin": "skin", "thing": "thing", "text": "text", "pieces": "pieces", "piece": "piece", "crossing": "crossing",
     "edge": "edge", "field": "field", "side": "side", "corner": "corner", "order": "order", "turns": "turns",
     "lot": "lot", "ring": "ring", "second": "ring", "one": "class", "kind": "class", "arrows": "arrows",
-    "fields": "fields", "pairing": "pairing", "table": "table", "far_table": "table",
+    "fields": "fields", "pairing": "pairing", "table": "table", "far_table": "table", "worths": "worths",
 }
 OWN = {
     ("piece_of", "number"): "any number", ("good_at", "number"): "number", ("left_ring", "number"): "loop number",
@@ -31,6 +32,12 @@ OWN = {
     ("left_sides", "ring"): "simple ring", ("sticking_out", "ring"): "simple ring", ("sticks", "ring"): "simple ring",
     ("q_of_ring", "ring"): "simple ring",
     ("unlike_ring", "arrows"): "good arrows", ("mark_moved", "arrows"): "good arrows",
+    ("paired_sum", "table"): "signed table", ("struck", "table"): "signed table", ("struck", "fields"): "rows",
+    ("turned_table", "table"): "signed table", ("turned_table", "fields"): "rows",
+    ("row_added", "table"): "signed table", ("row_added", "field"): "row", ("row_added", "other"): "other row",
+    ("row_added", "number"): "added number", ("sum_by_pairs", "table"): "signed table", ("sum_by_pairs", "field"): "row",
+    ("fewest_turned", "arrows"): "good arrows", ("kind_led", "arrows"): "good arrows",
+    ("is_kind_led", "arrows"): "good arrows", ("part_of", "arrows"): "good arrows",
 }
 
 
@@ -80,6 +87,9 @@ def drawn_given(rng, kind, skin):
         "arrows": lambda: rng.choice((drawn_arrows, good_ones))(rng, skin),
         "good arrows": lambda: good_ones(rng, skin), "fields": lambda: drawn_fields(rng, skin),
         "pairing": lambda: rng.choice(slow_pairings(skin) or [()]),
+        "worths": lambda: drawn_worths(rng, skin), "signed table": lambda: drawn_table(rng, rng.randrange(2, 7)),
+        "row": lambda: 0, "other row": lambda: 1, "rows": lambda: rng.choice(((), (0,), (1,), (0, 1))),
+        "added number": lambda: rng.choice((0, -1, 10 ** 6)),
         "table": lambda: rng.choice(TABLES), "text": lambda: rng.choice(("ab # c\n-1", "", "a\n\nb")),
         "pieces": lambda: rng.choice((PIECES, [])), "piece": lambda: rng.choice(("-12", "07", "")),
         "skin": lambda: skin,
@@ -90,7 +100,7 @@ def drawn_given(rng, kind, skin):
 TABLES = [((0, 1), (1, 1)), ((1, 1), (1, 0)), ((1, 0), (0, 1))]
 
 
-def calls(each=3):
+def calls(each=2):
     """(function, kinds, arguments) of calls of each function without a thing; some of them raise an error."""
     rng = random.Random(32)
     skins = some_skins()
@@ -101,7 +111,7 @@ def calls(each=3):
                     yield function, kinds, [drawn_given(rng, kind, skin) for kind in kinds]
 
 
-def thing_calls():
+def all_thing_calls():
     """(function, skin and others ahead of the thing) of each function with a thing, for some skins."""
     rng = random.Random(33)
     for function, kinds in functions_with_kinds():
@@ -109,6 +119,21 @@ def thing_calls():
             assert kinds[-1] == "thing"
             for skin in some_skins() if len(kinds) > 1 else [None]:
                 yield function, [drawn_given(rng, kind, skin) for kind in kinds[:-1]]
+
+
+def thing_calls():
+    """Those calls that are answered, whatever the thing."""
+    for function, given in all_thing_calls():
+        if raised(function, *given, None)[0] is None:
+            yield function, given
+
+
+def refused_thing_calls():
+    """(function, others, error) of those calls for which an error is stated, whatever the thing."""
+    for function, given in all_thing_calls():
+        error = raised(function, *given, None)
+        if error[0] is not None:
+            yield function, given, error
 
 
 def outcome(function, *given, **named):
@@ -119,6 +144,12 @@ def outcome(function, *given, **named):
         return type(error), vars(error)
 
 
+@functools.lru_cache(None)
+def answered_calls():
+    """(function, arguments, outcome) of those calls."""
+    return [(function, given, outcome(function, *given)) for function, _, given in calls()]
+
+
 NO_NUMBERS = [None, True, False, "0", "", (0,), [0], (), 1.0, {}, {0: 0}]
 NO_SKINS = [
     None, 0, True, "skin", (), [], {}, 1.5, b"skin", TWIN[:1], [TWIN], ((),), (((0, 0),) * 4,), (((0, 1), (0, 0), (0, 3)),),
@@ -126,12 +157,15 @@ NO_SKINS = [
 ]
 
 
+NO_SETS = [
+    None, 0, True, "0", "", {0: 0}, 1.5, (-1,), (0, 0), (True,), (False,), (None,), ("0",), ((0,),), [[0]], (0, True),
+    (0, 1.0), (1, 0), (0, 1, 0), (-1, 0),
+]
+
+
 def sets_that_are_none(many):
     """What is no set of numbers from 0 below many, whatever it is asked for."""
-    return [
-        None, 0, True, "0", "", {0: 0}, 1.5, (many,), (-1,), (0, 0), (True,), (False,), (None,), ("0",), ((0,),), [[0]],
-        (0, True), (0, 10 ** 30), tuple(range(many + 1)), (0, 1.0),
-    ] + ([(1, 0), (0, 1, 0)] if many > 1 else [])
+    return NO_SETS + [(many,), (0, 10 ** 30), tuple(range(many + 1))]
 
 
 def bits_that_are_none(many):
@@ -141,6 +175,12 @@ def bits_that_are_none(many):
         told += [(0,) * (many - 1), ()]
         told += [(0,) * (many - 1) + (bad,) for bad in (2, -1, True, False, None, "0", (0,), [1], 1.0, 10 ** 30)]
     return told
+
+
+def numbers_that_are_none(many):
+    """What is no tuple of so many numbers."""
+    told = [None, 0, True, "0" * many, {0: 0}, 1.5, (0,) * (many + 1), (0,) * (many - 1), (), ((0,) * many,), [[0] * many]]
+    return told + [(7,) * (many - 1) + (bad,) for bad in (True, False, None, "0", (0,), [1], 1.0)]
 
 
 def unfit(kind, skin):
@@ -165,6 +205,12 @@ def unfit(kind, skin):
         return bits_that_are_none(2 * len(skin))
     if kind in ("ring", "simple ring"):
         return no_rings(skin)
+    if kind == "worths":
+        return numbers_that_are_none(2 * len(skin))
+    if kind in ("row", "other row"):
+        return NO_NUMBERS + [-1, -10 ** 30]
+    if kind == "added number":
+        return NO_NUMBERS
     return other_unfit(kind, skin)
 
 
@@ -185,6 +231,8 @@ def other_unfit(kind, skin):
         "order": [None, 0, (), (0,) * (many + 1), (many,) * many, (-1,) * many, (True,) * many, {0: 0}],
         "turns": [None, 0, (), (0,) * (many + 1), (4,) * many, (-1,) * many, (True,) * many, {0: 0}],
         "table": [None, 0, True, "1", {0: 0}, (1,), ((1, 0),), ((2,),), ((-1,),), ((True,),), ((None,),), ([[1]],), ((1,), (0,))],
+        "signed table": [None, 0, True, "1", {0: 0}, (1,), ((1,),), ((0, 1), (1, 0)), ((0, 1),), ((0, False), (0, 0)), [[[0]]]],
+        "rows": NO_SETS + [(-1, 99), (99, 1), (99, 99), (0, 99, True)],
         "pieces": [None, 0, [("A", 0)], [("a", -1)], [("a", 1), ("b", 0)], [("a", True)], ["a0"], "ab", [("a",)], [("", 0)]],
     }
     return told.get(kind, [])

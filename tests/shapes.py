@@ -1,5 +1,7 @@
 """More named skins, and what is drawn of a skin: rings, lots, arrows, classes, pairings."""
 
+import random
+
 from tests.drawn import BALL_OF_ONE, ONE, PAIR, PILLOW, TWIN, drawn_skin, drawn_skins, grid, ring_of
 from tests.slow import slow_handles, slow_pairings, step_home
 
@@ -151,3 +153,37 @@ def skins_with_pairings(rng, handles=(0, 1, 2, 3), each=3, fields=(2, 4, 6, 8)):
                 if slow_pairings(skin):
                     found += 1
                     yield skin
+
+
+def skin_with_pairing(rng, many, handles):
+    """A drawn SKIN of so many fields and handles that has PAIRINGS."""
+    while True:
+        skin = skin_with_handles(rng, many, handles)
+        if slow_pairings(skin):
+            return skin
+
+
+def with_pairings(seed, each=1, handles=(0, 1, 2, 3)):
+    """Named SKINS and drawn ones that have PAIRINGS, of these numbers of handles."""
+    rng = random.Random(seed)
+    own = [TWIN, PILLOW, QUAD, FOUR, grid(3, 4), chain_of(12)]
+    return [skin for skin in own if slow_handles(skin) in handles] + list(skins_with_pairings(rng, handles, each))
+
+
+def drawn_number(rng):
+    """A number of a size that WORTHS may have: often 0, small ones, the greatest and the least."""
+    return rng.choice((0, 0, 1, -1, 1, 10 ** 6, -10 ** 6, rng.randrange(-9, 10), rng.randrange(-10 ** 6, 10 ** 6 + 1)))
+
+
+def drawn_worths(rng, skin):
+    return tuple(drawn_number(rng) for _ in range(2 * len(skin)))
+
+
+def drawn_table(rng, many):
+    """A signed table of so many rows."""
+    rows = [[0] * many for _ in range(many)]
+    for one in range(many):
+        for other in range(one):
+            rows[one][other] = drawn_number(rng)
+            rows[other][one] = -rows[one][other]
+    return tuple(tuple(row) for row in rows)

@@ -33,10 +33,10 @@ def names_of_package():
 
 
 class ExamplesTest(unittest.TestCase):
-    def test_there_are_all_of_sections_3_to_12_and_14(self):
+    def test_there_are_all_of_sections_3_to_17(self):
         told = read_examples()
-        self.assertEqual(len(told), 112)
-        self.assertEqual(sum(1 for _, _, answer in told if answer and answer.startswith("raises ")), 29)
+        self.assertEqual(len(told), 160)
+        self.assertEqual(sum(1 for _, _, answer in told if answer and answer.startswith("raises ")), 37)
 
     def test_each_has_its_answer(self):
         names = names_of_package()

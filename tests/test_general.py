@@ -8,30 +8,27 @@ import unittest
 from handlepairs.errors import TooMany, Unfit
 from handlepairs.skins import is_crossing, is_skin
 from tests.drawn import PAIR, PILLOW, TWIN, as_lists, exchanged, nest, odd_things, raised
-from tests.given import PIECES, calls, outcome, some_skins, thing_calls, unfit
+from tests.given import (
+    PIECES, answered_calls, calls, outcome, refused_thing_calls, some_skins, thing_calls, unfit,
+)
 from tests.slow import slow_is_ring
 
 
 class EveryFunctionTest(unittest.TestCase):
     def test_lists_and_tuples_give_equal_results(self):
         rng = random.Random(34)
-        for function, _, given in calls():
-            wanted = outcome(function, *given)
-            self.assertEqual(outcome(function, *as_lists(given)), wanted, (function.__name__, given))
-            for _ in range(2):
-                told = outcome(function, *[exchanged(value, rng) for value in given])
-                self.assertEqual(told, wanted, (function.__name__, given))
+        for at, (function, given, wanted) in enumerate(answered_calls()):
+            own = [exchanged(value, rng) for value in given] if at % 2 else as_lists(given)
+            self.assertEqual(outcome(function, *own), wanted, (function.__name__, given))
 
     def test_the_same_call_answers_the_same_again(self):
-        told = [outcome(function, *given) for function, _, given in calls()]
-        again = [outcome(function, *copy.deepcopy(given)) for function, _, given in calls()]
-        self.assertEqual(told, again)
+        for function, given, wanted in answered_calls():
+            self.assertEqual(outcome(function, *copy.deepcopy(given)), wanted, (function.__name__, given))
 
     def test_most_of_the_calls_here_raise_nothing(self):
         answered = {}
-        for function, _, given in calls():
-            fine = isinstance(outcome(function, *given), str)
-            answered.setdefault(function.__name__, []).append(fine)
+        for function, _, told in answered_calls():
+            answered.setdefault(function.__name__, []).append(isinstance(told, str))
         for name, fine in answered.items():
             self.assertGreater(sum(fine), 0, name)
 
@@ -42,11 +39,11 @@ class EveryFunctionTest(unittest.TestCase):
             self.assertEqual(outcome(function, **named), outcome(function, *given), function.__name__)
 
     def test_nothing_that_is_handed_in_is_changed(self):
-        for function, _, given in calls():
-            for own in (given, as_lists(given)):
-                kept = repr(own)
-                outcome(function, *own)
-                self.assertEqual(repr(own), kept)
+        for function, _, given in calls(1):
+            own = as_lists(given)
+            kept = repr(own)
+            outcome(function, *own)
+            self.assertEqual(repr(own), kept)
 
     def test_what_is_refused_changes_nothing(self):
         for function, kinds, given in calls(1):
@@ -128,10 +125,10 @@ class UnfitTest(unittest.TestCase):
     def test_too_many_where_it_is_stated_and_nowhere_else(self):
         wanted = {
             "classes", "all_kinds", "all_turned", "met_evenly", "q_row", "mark", "marks", "simple_rings", "all_pairings",
+            "step_rows", "steps", "lot_of", "fewest_turned", "kind_led", "how_many", "sum_of", "part_of", "parts",
+            "sum_without", "sum_with", "ways_of", "shares", "share_of", "shares_with", "edge_shares", "met_classes",
         }
-        found = {
-            function.__name__ for function, _, given in calls() if raised(function, *given)[0] is TooMany
-        }
+        found = {function.__name__ for function, _, told in answered_calls() if told == (TooMany, {})}
         self.assertEqual(found, wanted)
 
 
@@ -157,7 +154,20 @@ class ThingTest(unittest.TestCase):
                 elif told:
                     # Else of these () alone is what some functions ask for.
                     self.assertEqual((thing, type(thing)), ((), tuple))
-                    self.assertIn(function.__name__, ("is_lot", "is_class", "is_paired_classes", "is_lack"))
+                    self.assertIn(function.__name__, (
+                        "is_lot", "is_class", "is_paired_classes", "is_lack", "is_signed_table", "is_even_lot", "is_lot_of",
+                    ))
+
+    def test_what_is_stated_for_others_is_raised_whatever_the_thing(self):
+        found = set()
+        for function, given, error in refused_thing_calls():
+            found.add((function.__name__, error[0]))
+            for thing in odd_things():
+                self.assertEqual(raised(function, *given, thing), error)
+        self.assertEqual(found, {
+            ("are_step_rows", TooMany), ("is_lot_of", TooMany), ("is_kind_led", TooMany), ("is_kind_led", Unfit),
+            ("is_shares", TooMany), ("is_shares", Unfit),
+        })
 
     def test_a_skin_that_is_none_is_unfit_whatever_the_thing(self):
         for function, given in thing_calls():

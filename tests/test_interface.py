@@ -59,6 +59,26 @@ FUNCTIONS = {
         "lack": "skin", "is_lack": "skin thing", "parted": "skin pairing other",
         "class_between": "skin pairing other", "moved_along": "skin pairing ring",
     },
+    "tables": {
+        "worth_of": "skin worths pairing", "sign_of": "skin arrows pairing", "signed_table": "skin arrows worths",
+        "is_signed_table": "thing", "paired_sum": "table", "struck": "table fields", "turned_table": "table fields",
+        "row_added": "table field other number", "sum_by_pairs": "table field",
+    },
+    "turns": {
+        "is_even_lot": "skin thing", "crossed": "skin lot", "step_rows": "skin", "are_step_rows": "skin thing",
+        "steps": "skin", "lot_of": "skin kind", "is_lot_of": "skin kind thing", "fewest_turned": "skin arrows kind",
+        "kind_led": "skin arrows kind", "is_kind_led": "skin arrows kind thing",
+    },
+    "counts": {
+        "how_many": "skin", "sum_of": "skin worths", "part_of": "skin worths arrows pairing",
+        "parts": "skin worths pairing", "sum_without": "skin worths lot", "sum_with": "skin worths edge",
+        "ways_of": "skin lot",
+    },
+    "shares": {
+        "shares": "skin worths pairing", "is_shares": "skin worths pairing thing",
+        "share_of": "skin worths pairing one", "shares_with": "skin worths pairing edge", "edge_shares": "skin worths",
+        "met_classes": "skin pairing",
+    },
 }
 
 

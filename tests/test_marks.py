@@ -12,42 +12,15 @@ from handlepairs.marks import (
 from handlepairs.meetings import meetings
 from handlepairs.pairings import class_between
 from handlepairs.rings import put_together
-from tests.drawn import BALL_OF_ONE, ONE, PILLOW, TWIN, grid, odd_things, raised, ring_of
+from tests.drawn import BALL_OF_ONE, ONE, PILLOW, TWIN, odd_things, raised, ring_of
 from tests.shapes import (
-    FOUR, QUAD, SIX, chain_of, drawn_arrows, drawn_class, drawn_pairing, many_skins, skin_with_handles,
-    skins_with_pairings,
+    FOUR, SIX, chain_of, drawn_arrows, drawn_class, drawn_pairing, many_skins, skin_with_handles, skin_with_pairing,
+    with_pairings,
 )
 from tests.slow import (
-    all_bits, slow_class_of_ring, slow_handle_rings, slow_handles, slow_kind, slow_meetings, slow_pairings,
-    slow_q_of_ring, slow_sign, slow_simple_rings,
+    all_bits, slow_class_of_ring, slow_handles, slow_kind, slow_pairings, slow_q_of_ring, slow_sign, slow_simple_rings,
 )
-
-
-def with_pairings(seed, each=1, handles=(0, 1, 2, 3)):
-    rng = random.Random(seed)
-    own = [TWIN, PILLOW, QUAD, FOUR, grid(3, 4), chain_of(12)]
-    return [skin for skin in own if slow_handles(skin) in handles] + list(skins_with_pairings(rng, handles, each))
-
-
-def skin_with_pairing(rng, many, handles):
-    while True:
-        skin = skin_with_handles(rng, many, handles)
-        if slow_pairings(skin):
-            return skin
-
-
-def slow_q(skin, arrows, pairing, one):
-    """q of the CLASS, as the document tells it."""
-    rings = [ring for bit, ring in zip(one, slow_handle_rings(skin)) if bit]
-    total = sum(slow_q_of_ring(skin, arrows, pairing, ring) for ring in rings)
-    for at, ring in enumerate(rings):
-        total += sum(slow_meetings(skin, ring, other) for other in rings[:at])
-    return total % 2
-
-
-def slow_mark(skin, arrows, pairing):
-    row = [slow_q(skin, arrows, pairing, one) for one in all_bits(2 * slow_handles(skin))]
-    return 1 if row.count(0) > row.count(1) else -1
+from tests.slow_sums import slow_mark, slow_q
 
 
 class QTest(unittest.TestCase):
