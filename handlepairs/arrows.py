@@ -111,8 +111,8 @@ def fit_arrows(skin, arrows):
 
 def fit_good_arrows(skin, arrows):
     """The arrows as a tuple; Unfit() if they are no GOOD ARROWS of the skin."""
-    told = fit_arrows(skin, arrows)
-    if not are_good_ones(skin, told):
+    told = as_tuples(arrows, 1)
+    if not are_good_arrows_of(skin, told):
         raise Unfit()
     return told
 
@@ -126,6 +126,11 @@ def check_even(skin):
 def are_arrows_of(skin, thing):
     """Whether thing is a tuple with a bit for each EDGE."""
     return are_bits(thing, 2 * len(skin))
+
+
+def are_good_arrows_of(skin, thing):
+    """Whether thing are GOOD ARROWS of the skin."""
+    return are_arrows_of(skin, thing) and are_good_ones(skin, thing)
 
 
 def against_sides(skin, arrows):

@@ -130,9 +130,14 @@ def all_parts(skin, weighted, worths):
     return [part_by_weight(skin, worths, arrows, number) for arrows, number in weighted]
 
 
+def sum_by_parts(skin, told):
+    """The WORTHS of all PAIRINGS added up, by the parts of all KINDS, of which there are none without a PAIRING."""
+    return sum(told) // (1 << handle_number(skin))
+
+
 def sum_by_kinds(skin, weighted, worths):
-    """The WORTHS of all PAIRINGS added up, by the weighted kinds, of which there are none without a PAIRING."""
-    return sum(all_parts(skin, weighted, worths)) // (1 << handle_number(skin))
+    """The WORTHS of all PAIRINGS added up, by the weighted kinds."""
+    return sum_by_parts(skin, all_parts(skin, weighted, worths))
 
 
 def sum_of_all(skin, worths):

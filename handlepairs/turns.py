@@ -5,7 +5,7 @@ told by their numbers, ascending from 0: a number's figures by two are the bits 
 together by the sign ^.
 """
 
-from handlepairs.arrows import are_arrows_of, are_good_ones, fit_good_arrows, with_turned
+from handlepairs.arrows import are_good_arrows_of, fit_good_arrows, with_turned
 from handlepairs.bits import added
 from handlepairs.corners import check_handles, edge_ends, handle_number, rounds
 from handlepairs.given import is_same
@@ -89,7 +89,7 @@ def is_kind_led(skin, arrows, kind, thing):
     own = fit_good_arrows(told, arrows)
     wanted = fit_class(told, kind)
     check_handles(told)
-    if not are_arrows_of(told, thing) or not are_good_ones(told, thing) or kind_by_rings(told, thing) != wanted:
+    if not are_good_arrows_of(told, thing) or kind_by_rings(told, thing) != wanted:
         return False
     return sum(added(own, thing)) == len(least_lot_to(told, own, wanted))
 

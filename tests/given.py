@@ -22,7 +22,10 @@ MEANS = {
     "edge": "edge", "field": "field", "side": "side", "corner": "corner", "order": "order", "turns": "turns",
     "lot": "lot", "ring": "ring", "second": "ring", "one": "class", "kind": "class", "arrows": "arrows",
     "fields": "fields", "pairing": "pairing", "table": "table", "far_table": "table", "worths": "worths",
+    "many": "many", "sheet": "sheet", "demand": "demand", "demands": "demands",
 }
+# Kinds that are drawn of a skin, though none is handed in by itself.
+OF_A_SKIN = ("skin", "sheet", "demand", "demands")
 OWN = {
     ("piece_of", "number"): "any number", ("good_at", "number"): "number", ("left_ring", "number"): "loop number",
     ("edges_joining", "other"): "field", ("corner_way", "other"): "corner", ("put_together", "other"): "class",
@@ -38,6 +41,8 @@ OWN = {
     ("row_added", "number"): "added number", ("sum_by_pairs", "table"): "signed table", ("sum_by_pairs", "field"): "row",
     ("fewest_turned", "arrows"): "good arrows", ("kind_led", "arrows"): "good arrows",
     ("is_kind_led", "arrows"): "good arrows", ("part_of", "arrows"): "good arrows",
+    ("how_many_with", "other"): "lot", ("pairing_at", "number"): "number", ("pairings_from", "number"): "number",
+    ("read_sheet", "text"): "sheet text", ("read_skin", "text"): "sheet text",
 }
 
 
@@ -89,12 +94,32 @@ def drawn_given(rng, kind, skin):
         "pairing": lambda: rng.choice(slow_pairings(skin) or [()]),
         "worths": lambda: drawn_worths(rng, skin), "signed table": lambda: drawn_table(rng, rng.randrange(2, 7)),
         "row": lambda: 0, "other row": lambda: 1, "rows": lambda: rng.choice(((), (0,), (1,), (0, 1))),
-        "added number": lambda: rng.choice((0, -1, 10 ** 6)),
+        "added number": lambda: rng.choice((0, -1, 10 ** 6)), "many": lambda: rng.choice((0, 1, 3, 101)),
+        "sheet": lambda: drawn_sheet(rng, skin), "demand": lambda: drawn_demand(rng, skin),
+        "demands": lambda: tuple(drawn_demand(rng, skin) for _ in range(rng.randrange(3))),
+        "sheet text": lambda: rng.choice(("field 0 1 0 0 0 3 0 2\nlot 0 # a\n", "", "field 0 2 0 3 0 0 0 1", "lot", "A")),
         "table": lambda: rng.choice(TABLES), "text": lambda: rng.choice(("ab # c\n-1", "", "a\n\nb")),
         "pieces": lambda: rng.choice((PIECES, [])), "piece": lambda: rng.choice(("-12", "07", "")),
         "skin": lambda: skin,
     }
     return drawn[kind]()
+
+
+def drawn_sheet(rng, skin):
+    return skin, (drawn_worths(rng, skin),), (), (drawn_lot(rng, skin), ())
+
+
+def drawn_demand(rng, skin):
+    """A DEMAND of the skin, of those words for which there is one."""
+    told = [
+        ("good", skin), ("sum", skin, (0,) * (2 * len(skin)), rng.randrange(2)),
+        ("steps", skin, drawn_class(rng, skin), rng.randrange(4)),
+    ]
+    if len(skin) % 2 == 0:
+        told.append(("led", skin, good_ones(rng, skin), good_ones(rng, skin)))
+    if slow_pairings(skin):
+        told.append(("mark", skin, good_ones(rng, skin), rng.choice(slow_pairings(skin))))
+    return rng.choice(told)
 
 
 TABLES = [((0, 1), (1, 1)), ((1, 1), (1, 0)), ((1, 0), (0, 1))]
@@ -106,8 +131,8 @@ def calls(each=2):
     skins = some_skins()
     for function, kinds in functions_with_kinds():
         if "thing" not in kinds:
-            for skin in skins if "skin" in kinds else [None]:
-                for _ in range(each if len(kinds) > 1 or skin is None else 1):
+            for skin in skins if set(kinds) & set(OF_A_SKIN) else [None]:
+                for _ in range(4 * each if skin is None else each if kinds != ["skin"] else 1):
                     yield function, kinds, [drawn_given(rng, kind, skin) for kind in kinds]
 
 
@@ -157,6 +182,11 @@ NO_SKINS = [
 ]
 
 
+NO_DEMANDS = NO_SKINS + [
+    ("good",), ("good", TWIN[:1]), ("bad", TWIN), ("good", TWIN, 0), (0, TWIN), (("good",), TWIN), ("sum", TWIN, (1, 1, 1, 1)),
+    ("sum", TWIN, (1, 1, 1, 1), True), ("steps", TWIN, (0, 0), -1), ("led", TWIN, (0, 0, 0, 0), (0, 1, 0, 0)),
+    ("mark", TWIN, (0, 1, 0, 0), (1,)), {"good": TWIN}, ("steps", TWIN, (0, 0), None), ("led", TWIN, (0, 1, 0, 0), ()),
+]
 NO_SETS = [
     None, 0, True, "0", "", {0: 0}, 1.5, (-1,), (0, 0), (True,), (False,), (None,), ("0",), ((0,),), [[0]], (0, True),
     (0, 1.0), (1, 0), (0, 1, 0), (-1, 0),
@@ -211,6 +241,8 @@ def unfit(kind, skin):
         return NO_NUMBERS + [-1, -10 ** 30]
     if kind == "added number":
         return NO_NUMBERS
+    if kind == "many":
+        return NO_NUMBERS + [-1, -10 ** 30]
     return other_unfit(kind, skin)
 
 
@@ -232,6 +264,9 @@ def other_unfit(kind, skin):
         "turns": [None, 0, (), (0,) * (many + 1), (4,) * many, (-1,) * many, (True,) * many, {0: 0}],
         "table": [None, 0, True, "1", {0: 0}, (1,), ((1, 0),), ((2,),), ((-1,),), ((True,),), ((None,),), ([[1]],), ((1,), (0,))],
         "signed table": [None, 0, True, "1", {0: 0}, (1,), ((1,),), ((0, 1), (1, 0)), ((0, 1),), ((0, False), (0, 0)), [[[0]]]],
+        "sheet": NO_SKINS + [(TWIN, (), ()), (TWIN, (0,), (), ()), (TWIN, (), (), ((1, 0),)), (TWIN, (), (), (), ()), (TWIN,)],
+        "demand": NO_DEMANDS,
+        "demands": [None, 0, True, "good", ("good", TWIN), {0: ("good", TWIN)}, ("good",)] + [(own,) for own in NO_DEMANDS],
         "rows": NO_SETS + [(-1, 99), (99, 1), (99, 99), (0, 99, True)],
         "pieces": [None, 0, [("A", 0)], [("a", -1)], [("a", 1), ("b", 0)], [("a", True)], ["a0"], "ab", [("a",)], [("", 0)]],
     }

@@ -1,4 +1,4 @@
-"""Every example of the document's sections that have landed, with its answer."""
+"""Every example of the document, with its answer."""
 
 import doctest
 import importlib
@@ -6,7 +6,7 @@ import os
 import unittest
 
 from handlepairs import errors
-from tests.test_interface import FUNCTIONS
+from tests.test_interface import CLASSES, FUNCTIONS
 
 EXAMPLES = os.path.join(os.path.dirname(__file__), "examples.txt")
 README = os.path.join(os.path.dirname(os.path.dirname(os.path.abspath(__file__))), "README.md")
@@ -26,17 +26,18 @@ def read_examples():
 
 def names_of_package():
     names = {}
-    for module_name, functions in FUNCTIONS.items():
-        module = importlib.import_module("handlepairs." + module_name)
-        names.update({name: getattr(module, name) for name in functions})
+    for told in (FUNCTIONS, CLASSES):
+        for module_name, own in told.items():
+            module = importlib.import_module("handlepairs." + module_name)
+            names.update({name: getattr(module, name) for name in own})
     return names
 
 
 class ExamplesTest(unittest.TestCase):
-    def test_there_are_all_of_sections_3_to_17(self):
+    def test_there_are_all_of_the_document(self):
         told = read_examples()
-        self.assertEqual(len(told), 160)
-        self.assertEqual(sum(1 for _, _, answer in told if answer and answer.startswith("raises ")), 37)
+        self.assertEqual(len(told), 194)
+        self.assertEqual(sum(1 for _, _, answer in told if answer and answer.startswith("raises ")), 45)
 
     def test_each_has_its_answer(self):
         names = names_of_package()

@@ -79,10 +79,44 @@ FUNCTIONS = {
         "share_of": "skin worths pairing one", "shares_with": "skin worths pairing edge", "edge_shares": "skin worths",
         "met_classes": "skin pairing",
     },
+    "numbered": {
+        "how_many_with": "skin lot other", "pairing_number": "skin pairing", "pairing_at": "skin number",
+        "least_pairing": "skin", "greatest_pairing": "skin", "next_pairing": "skin pairing",
+        "pairing_ahead": "skin pairing", "pairings_from": "skin number many", "begun_with": "skin lot",
+    },
+    "texts": {
+        "is_sheet": "thing", "sheet_text": "sheet", "read_sheet": "text", "skin_text": "skin", "read_skin": "text",
+    },
+    "judge": {
+        "is_demand": "thing", "is_so": "demand", "paper_against": "demand", "is_paper_against": "demand thing",
+        "reason_for": "demand", "is_reason_for": "demand thing", "first_fallen": "demands",
+    },
 }
+# The classes, by their files: what their methods are passed beside the object.
+CLASSES = {"desk": {"Desk": {
+    "__init__": "skin arrows", "say": "text", "skin": "", "arrows": "", "first": "", "undo": "", "redo": "", "twin": "",
+    "__eq__": "other",
+}}}
 
 
 class InterfaceTest(unittest.TestCase):
+    def test_there_are_all_that_the_document_lists(self):
+        self.assertEqual(len(FUNCTIONS), 18)
+        self.assertEqual(sum(map(len, FUNCTIONS.values())), 158)
+
+    def test_each_class_is_defined_in_its_file_with_its_methods(self):
+        for module_name, classes in CLASSES.items():
+            module = importlib.import_module("handlepairs." + module_name)
+            for name, methods in classes.items():
+                cls = getattr(module, name)
+                self.assertTrue(inspect.isclass(cls))
+                self.assertEqual((cls.__module__, cls.__name__), (module.__name__, name))
+                for method, arguments in methods.items():
+                    # In the class itself, not only in a base class.
+                    told = inspect.signature(vars(cls)[method]).parameters.values()
+                    self.assertEqual([own.name for own in told][1:], arguments.split())
+                    self.assertEqual({own.kind for own in told}, {inspect.Parameter.POSITIONAL_OR_KEYWORD})
+
     def test_each_function_is_defined_in_its_file(self):
         for module_name, functions in FUNCTIONS.items():
             module = importlib.import_module("handlepairs." + module_name)

@@ -99,6 +99,22 @@ def docstrings(tree):
     }
 
 
+def classes():
+    for name, tree in trees():
+        for node in ast.walk(tree):
+            if isinstance(node, ast.ClassDef):
+                yield name, node
+
+
+def methods_of(cls):
+    return [node.name for node in cls.body if isinstance(node, ast.FunctionDef)]
+
+
+def attributes_of(cls):
+    """What the methods assign to an object."""
+    return {node.attr for node in ast.walk(cls) if isinstance(node, ast.Attribute) and isinstance(node.ctx, ast.Store)}
+
+
 class LanguageTest(unittest.TestCase):
     def test_files(self):
         names = [os.path.relpath(path, PACKAGE) for path in files()]
@@ -201,14 +217,60 @@ class LanguageTest(unittest.TestCase):
                     self.assertEqual(inner & kept, set(), (name, function.name))
 
     def test_methods_of_values(self):
+        own_methods = {method for _, cls in classes() for method in methods_of(cls)}
         for name, tree in trees():
-            own_methods = {
-                node.name for cls in ast.walk(tree) if isinstance(cls, ast.ClassDef) for node in cls.body
-                if isinstance(node, ast.FunctionDef)
-            }
             for node in ast.walk(tree):
                 if isinstance(node, ast.Call) and isinstance(node.func, ast.Attribute):
                     self.assertIn(node.func.attr, METHODS | own_methods, (name, node.lineno))
+
+    def test_classes(self):
+        """No name is a method and an attribute, none is twice; what is read is assigned; no class stands as a value."""
+        names = {cls.name for _, cls in classes()}
+        self.assertIn("Desk", names)
+        every_method = {own for _, cls in classes() for own in methods_of(cls)}
+        every_attribute = {own for _, cls in classes() for own in attributes_of(cls)}
+        for name, cls in classes():
+            told = methods_of(cls)
+            self.assertEqual(len(told), len(set(told)), (name, cls.name))
+            self.assertEqual(set(told) & attributes_of(cls), set(), (name, cls.name))
+        for name, tree in trees():
+            called = {id(node.func) for node in ast.walk(tree) if isinstance(node, ast.Call)}
+            asked = {id(node.args[1]) for node in ast.walk(tree) if isinstance(node, ast.Call) and len(node.args) == 2}
+            bases = {id(own) for node in ast.walk(tree) if isinstance(node, ast.ClassDef) for own in node.bases}
+            for node in ast.walk(tree):
+                if isinstance(node, ast.Name) and node.id in names:
+                    self.assertIn(id(node), called | asked | bases, (name, node.lineno))
+                if isinstance(node, ast.Attribute) and id(node) not in called:
+                    self.assertIn(node.attr, every_attribute, (name, node.lineno))
+                    self.assertIsInstance(node.value, ast.Name, (name, node.lineno))
+        self.assertEqual(every_method & every_attribute, set())
+
+    def test_nothing_is_sorted_in_place_beside_a_class_that_compares(self):
+        for name, tree in trees():
+            for node in ast.walk(tree):
+                self.assertNotEqual(getattr(node, "attr", None), "sort", name)
+
+    def test_lists_and_dicts_of_modules_are_read_alone(self):
+        for name, tree in trees():
+            told = {
+                node.targets[0].id for node in tree.body
+                if isinstance(node, ast.Assign) and isinstance(node.value, (ast.List, ast.Dict))
+            }
+            fine = set()
+            for node in ast.walk(tree):
+                if isinstance(node, (ast.Subscript, ast.Attribute)):
+                    fine.add(id(node.value))
+                elif isinstance(node, ast.Compare):
+                    fine |= {id(own) for own in node.comparators}
+            for node in ast.walk(tree):
+                if isinstance(node, ast.Name) and node.id in told and isinstance(node.ctx, ast.Load):
+                    self.assertIn(id(node), fine, (name, node.lineno))
+
+    def test_behind_a_star_stands_a_name(self):
+        for name, tree in trees():
+            for node in ast.walk(tree):
+                if isinstance(node, ast.Starred):
+                    self.assertIsInstance(node.value, ast.Name, (name, node.lineno))
 
     def test_sets_are_not_iterated(self):
         """A set comprehension or set(..) stands in sorted(..), len(..) or beside in, or is assigned to a name."""
