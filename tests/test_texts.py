@@ -202,7 +202,8 @@ class BadTextTest(unittest.TestCase):
     def test_the_first_row_is_no_row_field(self):
         for text, line in (
             ("worths 1", 0), ("\n\nlot", 2), ("arrows 0 0\n" + BALL_TEXT, 0), ("fields 1", 0), ("1 field", 0), ("#\n0", 1), (".", 0),
-            ("# a\n   \nfiel", 2), ("skin\nfield 0 1 0 0 0 3 0 2", 0),
+            ("# a\n   \nfiel", 2), ("skin\nfield 0 1 0 0 0 3 0 2", 0), ("worths 0 1 0 0 0 3 0 2", 0), ("fiel 0 1 0 0 0 3 0 2", 0),
+            ("lot 0 1 0 0 0 3 0 2\nlot", 0),
         ):
             self.check(text, line)
 
@@ -214,6 +215,7 @@ class BadTextTest(unittest.TestCase):
             "field 00 1 0 0 0 3 0 2", "field - 1 0 0 0 3 0 2",
         ):
             self.check(row, 0)
+            self.check(row + "\nfield 9 0 9 0 9 0 9 0", 0)
             self.check("\nfield 9 0 9 0 9 0 9 0\n" + row + "\nlot 9", 2)
             self.check(BALL_TEXT + "# a\n" + row, 3)
 
